@@ -1,0 +1,1 @@
+"""Clothlayers: cloths, the looms that weave them, and whether they hang together."""
