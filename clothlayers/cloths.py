@@ -49,6 +49,11 @@ def count_threads(rows):
     return len(rows) + len(rows[0])
 
 
+def columns_of(rows):
+    """The signs of each warp, from the first weft to the last."""
+    return [[row[at] for row in rows] for at in range(len(rows[0]))]
+
+
 def need_thread(rows, thing):
     """BadThread for what is no thread of these rows."""
     if not is_whole(thing) or not 0 <= thing < count_threads(rows):
@@ -85,11 +90,21 @@ def over(cloth, one, other):
     return lies_over(rows, one, other)
 
 
+def lower_threads(rows, thread):
+    """A list of all threads over which the thread lies, rising."""
+    return [other for other in crossing(rows, thread) if lies_over(rows, thread, other)]
+
+
 def beneath(cloth, thread):
-    """A list of all threads over which the thread lies somewhere, rising."""
+    """A list of all threads over which the thread lies somewhere, rising; BadThread where it is none."""
     rows = need_cloth(cloth)
     need_thread(rows, thread)
-    return [other for other in crossing(rows, thread) if lies_over(rows, thread, other)]
+    return lower_threads(rows, thread)
+
+
+def rises(numbers):
+    """Whether each number is greater than the one before it."""
+    return all(numbers[at - 1] < numbers[at] for at in range(1, len(numbers)))
 
 
 def need_rising_threads(rows, thing):
@@ -98,9 +113,8 @@ def need_rising_threads(rows, thing):
         raise BadThread("some threads are told by a list")
     for thread in thing:
         need_thread(rows, thread)
-    for at in range(1, len(thing)):
-        if thing[at - 1] >= thing[at]:
-            raise BadThread("the threads of a list rise, each told once")
+    if not rises(thing):
+        raise BadThread("the threads of a list rise, each told once")
 
 
 def cloth_of(cloth, some):

@@ -1,6 +1,6 @@
 """Cloths turned over, moved and repeated, and their least repeats."""
 
-from clothlayers.cloths import MOST, is_whole, need_cloth
+from clothlayers.cloths import MOST, columns_of, is_whole, need_cloth
 from clothlayers.errors import BadCount
 
 
@@ -51,9 +51,8 @@ def least_period(lines):
 def least_repeat(cloth):
     """The cloth that is the same without end and has the fewest wefts and warps."""
     rows = need_cloth(cloth)
-    columns = [[row[at] for row in rows] for at in range(len(rows[0]))]
     wefts = least_period(rows)
-    warps = least_period(columns)
+    warps = least_period(columns_of(rows))
     return [row[:warps] for row in rows[:wefts]]
 
 

@@ -29,6 +29,19 @@ PLAIN = [[1, 0, 0], [1, 1, 0]]
 # Neither turned over nor moved it is the same as before.
 UNEVEN = [[1, 0, 0, 1], [0, 1, 1, 1], [0, 0, 1, 0]]
 
+TABBY = [[1, 0], [0, 1]]
+TWILL = [[1, 0, 0], [0, 1, 0], [0, 0, 1]]
+# Wefts 0 and 2 with warps 4 and 6 make a tabby above, wefts 1 and 3 with warps 5 and 7 another one below.
+DOUBLE = [[1, 0, 0, 0], [1, 1, 1, 0], [0, 0, 1, 0], [1, 0, 1, 1]]
+# The tabby above has the later threads: wefts 2 and 3, warps 6 and 7.
+LOWER_FIRST = [[1, 0, 1, 1], [0, 1, 1, 1], [0, 0, 1, 0], [0, 0, 0, 1]]
+# Weft 1 above, the tabby of wefts 0 and 2 with warps 3 and 5 between, warp 4 below.
+BETWEEN = [[1, 0, 0], [0, 0, 0], [0, 0, 1]]
+# Each warp lies over all wefts from its own on: a chain, from the first warp down to the last weft.
+STEPS = [[1 if weft >= warp else 0 for warp in range(12)] for weft in range(12)]
+# A ring of twelve wefts and twelve warps: each weft lies over the next warp alone, so ways are long.
+RING = [[0 if warp == (weft + 1) % 12 else 1 for warp in range(12)] for weft in range(12)]
+
 NO_NUMBERS = [True, False, None, "1", "", b"1", 1.0, 0.0, float("nan"), 1j, [1], [], (1,), {}, {1}, Odd(), int]
 
 BAD_CLOTHS = [
@@ -82,6 +95,73 @@ BAD_CLOTHS = [
 ] + [[[1, thing]] for thing in NO_NUMBERS] + [[[0], [thing]] for thing in NO_NUMBERS]
 
 
+# The lists that stand in a loom in place of its threading, its ties or its treadling.
+NO_LISTS = [[], (0,), (), None, "0", "", b"0", 0, 1, True, False, 1.5, {}, {0: 0}, {0}, range(1), Odd(), list]
+BEYOND_SHAFTS = [12, 13, 10 ** 40, -1, -12, -10 ** 40]
+
+LOOM = ([0, 2, 5, 0], [[0, 5], [], [2, 5, 11]], [0, 1, 2, 1, 0])
+
+
+def with_part(loom, place, part):
+    """The loom with another part in that place."""
+    parts = list(loom)
+    parts[place] = part
+    return tuple(parts)
+
+
+def bad_threadings():
+    for bad in NO_LISTS + [[0] * 13, [[0]], [[0], [0]], loop()]:
+        yield bad
+    for bad in BEYOND_SHAFTS + NO_NUMBERS:
+        yield from ([bad], [bad, 0], [0, bad, 1], [0, 1, bad], [0] * 11 + [bad])
+
+
+def bad_treadlings():
+    for bad in NO_LISTS + [[0] * 13, [[0]], [[0], [0]], loop()]:
+        yield bad
+    # LOOM has three treadles.
+    for bad in [3, 4, 11, 12, 10 ** 40, -1, -3, -10 ** 40] + NO_NUMBERS:
+        yield from ([bad], [bad, 0], [0, bad, 1], [0, 1, bad], [0] * 11 + [bad])
+
+
+def bad_ties():
+    # The empty list is a tie.
+    for bad in NO_LISTS[1:] + [loop(), [[0]]]:
+        yield bad
+    yield from ([0, 0], [1, 0], [11, 0], [0, 2, 1], [0, 1, 1], [2, 0, 1], [0, 1, 0, 1], list(range(11, -1, -1)))
+    yield from (list(range(13)), [0] * 13, [0] * 12)
+    for bad in BEYOND_SHAFTS + NO_NUMBERS:
+        yield from ([bad], [bad, 5], [0, bad], [0, bad, 11], [bad, bad])
+
+
+def bad_looms():
+    """Things that are no looms, each with one fault alone."""
+    threading, ties, treadling = LOOM
+    yield from (with_part(LOOM, 0, bad) for bad in bad_threadings())
+    yield from (with_part(LOOM, 2, bad) for bad in bad_treadlings())
+    yield from (with_part(LOOM, 1, bad) for bad in NO_LISTS + [[[]] * 13, [[0]] * 13, loop()])
+    for tie in bad_ties():
+        yield from (with_part(LOOM, 1, bad) for bad in ([tie, [], []], [[], tie, [0]], [[0], [1], tie]))
+    yield from (list(LOOM), [], [[0], [[0]], [0]], (), (threading,), (threading, ties), (threading, treadling))
+    yield from (LOOM + ([0],), LOOM + (None,), LOOM + ((),), (LOOM,), (threading, treadling, ties), LOOM[::-1])
+    yield from (None, "", "012", b"012", 0, 3, True, False, 1.5, {}, {0: [0], 1: [[0]], 2: [0]}, range(3), Odd(), tuple)
+    yield from ((ties, threading, treadling), ([], [], []), (None, None, None), (0, 0, 0), "abc", ("", "", ""))
+
+
+BAD_LOOMS = list(bad_looms())
+
+
+def sized(wefts, warps):
+    """A cloth of this size."""
+    return [[(weft * warp + weft) % 2 for warp in range(warps)] for weft in range(wefts)]
+
+
+def no_threads(cloth):
+    """Things that are no threads of this cloth."""
+    many = len(cloth) + len(cloth[0])
+    return [many, many + 1, 10 ** 30, -1, -many, -10 ** 30] + NO_NUMBERS
+
+
 def all_cloths(wefts, warps):
     """Each cloth of this size."""
     for signs in product((0, 1), repeat=wefts * warps):
@@ -106,14 +186,20 @@ def check_refuses_bad_cloths(case, call, *things):
         check_refused(case, BadCloth, call, bad, *things)
 
 
+def lists_in(told):
+    """All lists in what was told, itself among them."""
+    found = [told] if isinstance(told, list) else []
+    for part in told:
+        if isinstance(part, (list, tuple)):
+            found += lists_in(part)
+    return found
+
+
 def spoil(told):
-    """Change a list that was told, and each row in it."""
-    for row in told:
-        if isinstance(row, list):
-            row.append("spoilt")
-            row[0] = "spoilt"
-    told.append("spoilt")
-    told[0] = "spoilt"
+    """Change each list in what was told."""
+    for part in lists_in(told):
+        part.append("spoilt")
+        part[0] = "spoilt"
 
 
 def check_own_list(case, call, *things):
@@ -121,8 +207,8 @@ def check_own_list(case, call, *things):
     before = repr(things)
     told = call(*things)
     wanted = copy.deepcopy(told)
-    rows = [row for row in told if isinstance(row, list)]
-    case.assertEqual(len({id(row) for row in rows}), len(rows), "one row stands in two places")
+    parts = lists_in(told)
+    case.assertEqual(len({id(part) for part in parts}), len(parts), "one list stands in two places")
     case.assertEqual(repr(things), before)
     spoil(told)
     case.assertEqual(repr(things), before)

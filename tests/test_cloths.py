@@ -6,18 +6,10 @@ from clothlayers.cloths import beneath, cloth_of, need_cloth, over, threads
 from clothlayers.errors import BadCloth, BadThread
 from samples import (
     BAD_CLOTHS, NO_NUMBERS, PLAIN, UNEVEN, all_cloths, check_own_list, check_refused, check_refuses_bad_cloths,
+    no_threads, sized,
 )
 
 SIZES = [(1, 1), (1, 12), (12, 1), (12, 12), (2, 3), (5, 4), (7, 11)]
-
-
-def sized(wefts, warps):
-    return [[(weft * warp + weft) % 2 for warp in range(warps)] for weft in range(wefts)]
-
-
-def no_threads(cloth):
-    many = len(cloth) + len(cloth[0])
-    return [many, many + 1, 10 ** 30, -1, -many, -10 ** 30] + NO_NUMBERS
 
 
 class NeedClothTest(unittest.TestCase):

@@ -4,6 +4,9 @@ import unittest
 
 from clothlayers import errors
 from clothlayers.cloths import need_cloth, over
+from clothlayers.layers import way
+from clothlayers.looms import need_loom
+from clothlayers.notes import read
 from clothlayers.turning import moved
 from samples import PLAIN, REFUSALS, check_refused
 
@@ -29,7 +32,10 @@ class ErrorsTest(unittest.TestCase):
     def test_a_refusal_is_taken_as_its_class_and_those_above(self):
         check_refused(self, errors.BadCloth, need_cloth, None)
         check_refused(self, errors.BadThread, over, PLAIN, 0, 0)
+        check_refused(self, errors.BadThread, way, PLAIN, 0, 5)
         check_refused(self, errors.BadCount, moved, PLAIN, None, 0)
+        check_refused(self, errors.BadLoom, need_loom, None)
+        check_refused(self, errors.BadText, read, None)
 
 
 if __name__ == "__main__":

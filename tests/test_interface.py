@@ -4,7 +4,7 @@ import inspect
 import unittest
 from pathlib import Path
 
-from clothlayers import cloths, turning
+from clothlayers import cloths, layers, looms, notes, turning
 
 PACKAGE = Path(__file__).resolve().parent.parent / "clothlayers"
 
@@ -19,6 +19,15 @@ FUNCTIONS = [
     (turning, "repeated", ["cloth", "down", "right"]),
     (turning, "least_repeat", ["cloth"]),
     (turning, "same", ["cloth", "other"]),
+    (looms, "need_loom", ["thing"]),
+    (looms, "woven", ["loom"]),
+    (looms, "loom_of", ["cloth"]),
+    (looms, "apart", ["cloth", "one", "other"]),
+    (layers, "way", ["cloth", "one", "other"]),
+    (layers, "hangs", ["cloth"]),
+    (layers, "layers", ["cloth"]),
+    (notes, "shown", ["cloth"]),
+    (notes, "read", ["text"]),
 ]
 
 
